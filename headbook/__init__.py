@@ -1,0 +1,1 @@
+"""Headbook: a book of names in parts over several houses."""
