@@ -23,6 +23,7 @@ class Run:
         self.twice = self.chance.choice([0, 20, 60])
         self.late = self.chance.choice([0, 30, 90])
         self.events = ["ask"] * 4 + ["post"] * self.chance.choice([3, 8, 15])
+        self.events += ["again"] * self.chance.choice([0, 2])
         self.events += ["cut"] * self.chance.choice([1, 1, 2]) + ["move"] * self.chance.choice([1, 2, 4])
 
     def percent(self, many):
@@ -81,6 +82,11 @@ class Run:
         if not self.percent(self.lost):
             self.under_way.extend(self.town.hear(to, letter))
 
+    def again(self):
+        """A letter of any earlier time, perhaps heard long ago."""
+        if self.town.told:
+            self.under_way.extend(self.town.hear(*self.chance.choice(self.town.told)))
+
     def rest(self):
         self.town.rest(self.asks)
         self.watch.check_rest()
@@ -115,7 +121,7 @@ class RunsTest(unittest.TestCase):
                 run.go(60).rest().hear_again()
 
     def test_runs_in_which_much_happens(self):
-        runs = [Run(self, seed).go(120).rest() for seed in range(20)]
+        runs = [Run(self, seed).go(200).rest() for seed in range(20)]
         self.assertGreater(sum([len(run.watch.homes) for run in runs]), 60)
         self.assertGreater(sum([len(homes) for run in runs for homes in run.watch.homes.values()]), 300)
         words = [answer[0] for run in runs for house in run.town.houses for _, answer in house.answers()]
