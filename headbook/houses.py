@@ -2,8 +2,8 @@
 
 A letter is a tuple, its first item a word:
 
-("ask", asker, ask, deed, length, turn): an ask under way, and by which root's length and
-    turn it was sent; a deed is (kind, name, number).
+("ask", asker, ask, deed, by): an ask under way, and by which root's length and turn it was
+    sent; a deed is (kind, name, number).
 ("answer", ask, answer, news): news is all that the sender knows.
 ("part", sender, packed, news): a part that moves.
 ("came", root, turn): it came.
@@ -18,6 +18,7 @@ its letter is heard: so there is one way for all asks, and one letter does one a
 from headbook.errors import BadCut, BadHouse, Full, NotHome
 from headbook.names import check_house, check_many, check_name, check_number, longest
 from headbook.parts import Page, Part
+from headbook.ways import UNSENT, way_on
 
 MOST_ASKS = 100
 
@@ -168,10 +169,15 @@ class House:
         ask = len(self._replies)
         if ask == len(self._deeds):
             return []
-        deed = self._deeds[ask]
-        root = longest(self._known, deed[1])
-        turn, house = self._known[root]
-        return [(house, ("ask", self._number, ask, deed, len(root), turn))]
+        return self._sent_on(self._number, ask, self._deeds[ask], UNSENT)
+
+    def _sent_on(self, asker, ask, deed, by):
+        way = way_on(self._known, deed[1], by)
+        if way is None:
+            # It needn't wait here: its asker tells it again.
+            return []
+        house, next_by = way
+        return [(house, ("ask", asker, ask, deed, next_by))]
 
     def _page_letters(self):
         told = []
@@ -181,17 +187,13 @@ class House:
         return told
 
     def _hear_ask(self, letter):
-        _, asker, ask, deed, length, turn = letter
+        _, asker, ask, deed, by = letter
         # A home knows of all that was cut off from its part, so if it is home of the longest
         # root that it knows, the name lies there.
         root = longest(self._known, deed[1])
         if root in self._homes:
             return self._answer(asker, ask, self._homes[root].answered(asker, ask, deed))
-        next_turn, house = self._known[root]
-        if (len(root), next_turn) > (length, turn):
-            return [(house, ("ask", asker, ask, deed, len(root), next_turn))]
-        # It needn't wait here: its asker tells it again.
-        return []
+        return self._sent_on(asker, ask, deed, by)
 
     def _answer(self, asker, ask, answer):
         if answer is None:

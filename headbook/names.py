@@ -37,8 +37,12 @@ def check_name(value):
         raise BadName("a name is a tuple of at most five labels of one to three small letters")
 
 
+def is_number(value):
+    return is_between(value, 0, MOST_NUMBER)
+
+
 def check_number(value):
-    if not is_between(value, 0, MOST_NUMBER):
+    if not is_number(value):
         raise BadNumber("a number is whole, 0 to 999")
 
 

@@ -227,6 +227,27 @@ class CopiesTest(unittest.TestCase):
         self.assertEqual([((), 2)], town[1].copies())
         self.assertIsNone(town[1].old(("a",)))
 
+    def test_copies_come_while_copy_is_asked_again(self):
+        """The second copy waits behind a look at a part whose letter is under way."""
+        town = Town(3)
+        town[2].copy(())
+        town.rest(1)
+        town[0].cut(("a",))
+        town[0].move(("a",), 1)
+        late = town.collect(0)
+        town[2].look(("a",))
+        town[2].copy(())
+        for worth in range(3):
+            town[0].put((), worth)
+            for number in (0, 2):
+                town.deliver([row for row in town.collect(number) if row not in late])
+            town.deliver([row for row in town.collect(0) if row not in late])
+            self.assertEqual([((), 2 + worth)], town[2].copies())
+        self.assertEqual(1, len(town[2].answers()))
+        town.rest(2)
+        self.assertEqual(3, len(town[2].answers()))
+        self.assertEqual([((), 4)], town[2].copies())
+
     def test_leave_lets_go_ahead_of_any_answer(self):
         town = Town(2)
         town[1].copy(())

@@ -1,19 +1,28 @@
-"""The interface: the classes of refusals, and where the methods of House stand."""
+"""The interface: the classes of refusals, and where all that it lists is defined."""
 
 import ast
 import pathlib
 import unittest
 
-from headbook import errors
+from headbook import errors, logs, notes, routes
 from headbook.houses import House
 
 PACKAGE = pathlib.Path(__file__).resolve().parent.parent / "headbook"
 PLAIN = ("BadHouse", "BadName", "BadNumber", "NotHome", "BadCut", "Full")
 FIELDS = {"BadTables": "number", "BadLog": "number", "BadText": "row"}
-METHODS = (
-    "look", "put", "drop", "copy", "leave", "cut", "move", "answers", "parts", "entries",
-    "copies", "knows", "letters", "hear", "old",
-)
+METHODS = {
+    "__init__": ("number", "many"), "look": ("name",), "put": ("name", "number"), "drop": ("name",),
+    "copy": ("root",), "leave": ("root",), "cut": ("root",), "move": ("root", "house"), "answers": (), "parts": (),
+    "entries": ("root",), "copies": (), "knows": (), "letters": (), "hear": ("letter",), "old": ("name",),
+}
+FUNCTIONS = {
+    (routes, "route"): ("tables", "house", "name"), (logs, "judged"): ("entries", "mark", "rows"),
+    (logs, "behind"): ("entries", "rows"), (notes, "written"): ("entries",), (notes, "read"): ("text",),
+}
+
+
+def arguments(node):
+    return tuple(row.arg for row in node.args.args)
 
 
 def defined(file):
@@ -42,26 +51,14 @@ class ErrorsTest(unittest.TestCase):
 
     def test_where_the_interface_is_defined(self):
         self.assertEqual({"BookError", *PLAIN, *FIELDS}, set(defined("errors.py")))
-        rows = [row.name for row in defined("houses.py")["House"].body if isinstance(row, ast.FunctionDef)]
-        for method in METHODS:
-            self.assertIn(method, rows)
+        rows = {row.name: row for row in defined("houses.py")["House"].body if isinstance(row, ast.FunctionDef)}
+        for method, names in METHODS.items():
+            self.assertEqual(("self",) + names, arguments(rows[method]), method)
             self.assertTrue(callable(getattr(House, method)))
-
-
-class SizesTest(unittest.TestCase):
-    """The sizes of LANGUAGE.md, which are easily outgrown."""
-
-    def test_files_and_lines(self):
-        for path in sorted(PACKAGE.glob("*.py")):
-            lines = path.read_text(encoding="ascii").splitlines()
-            self.assertLessEqual(len(lines), 399, path)
-            self.assertLessEqual(max(len(line) for line in lines), 120, path)
-
-    def test_functions(self):
-        for path in sorted(PACKAGE.glob("*.py")):
-            for node in ast.walk(ast.parse(path.read_text())):
-                if isinstance(node, ast.FunctionDef):
-                    self.assertLessEqual(node.end_lineno - node.lineno + 1, 40, (path, node.name))
+        for (module, name), names in FUNCTIONS.items():
+            file = module.__name__.partition(".")[2] + ".py"
+            self.assertEqual(names, arguments(defined(file)[name]), name)
+            self.assertTrue(callable(getattr(module, name)))
 
 
 if __name__ == "__main__":

@@ -1,9 +1,15 @@
-"""Promises 8 to 11 in runs from fixed seeds: letters in any order, late, twice, lost."""
+"""Promises 8 to 11 in runs from fixed seeds: letters in any order, late, twice, lost.
+
+Promises 12 to 14 over what the houses of these runs tell.
+"""
 
 import random
 import unittest
 
-from tests.town import NAMES, Town, Watch, tells
+from headbook.logs import behind, judged
+from headbook.notes import read, written
+from headbook.routes import route
+from tests.town import NAMES, Town, Watch, ask_path, longest, tables, tells
 
 RUNS = 150
 
@@ -24,6 +30,7 @@ class Run:
         self.late = self.chance.choice([0, 30, 90])
         self.events = ["ask"] * 4 + ["post"] * self.chance.choice([3, 8, 15])
         self.events += ["again"] * self.chance.choice([0, 2])
+        self.instants = []
         self.events += ["cut"] * self.chance.choice([1, 1, 2]) + ["move"] * self.chance.choice([1, 2, 4])
 
     def percent(self, many):
@@ -32,6 +39,8 @@ class Run:
     def go(self, many):
         for _ in range(many):
             getattr(self, self.chance.choice(self.events))()
+            for instant in self.instants:
+                instant()
         return self
 
     def house(self):
@@ -92,6 +101,71 @@ class Run:
         self.watch.check_rest()
         return self
 
+    # Routes, logs and texts of what the houses tell now
+
+    def routes(self):
+        """Each route ends, and where it ends at home, the name lies in a part there."""
+        told = tables(self.town.houses)
+        for number in range(self.town.many):
+            for name in NAMES:
+                houses, word = route(told, number, name)
+                self.case.assertEqual(number, houses[0])
+                self.case.assertLessEqual(max(map(houses.count, houses)), 2)
+                if word == "home":
+                    self.check_home(self.town[houses[-1]], name)
+                else:
+                    self.case.assertGreater(len(houses), 1)
+                yield number, name, houses, word
+
+    def check_home(self, house, name):
+        root = longest(self.watch.homes, name)
+        self.case.assertIn(root, [row[0] for row in house.parts()])
+        self.case.assertEqual(dict(house.entries(root)).get(name), house.old(name)[2])
+
+    def asks_go_by_routes(self):
+        for number, name, houses, word in self.routes():
+            asked = len(self.watch.asked[number])
+            if asked == len(self.town[number].answers()) and asked < 100:
+                self.case.assertEqual((houses, word), ask_path(self.town, number, name))
+
+    def routes_at_rest(self):
+        for _, _, _, word in self.routes():
+            self.case.assertEqual("home", word)
+
+    def texts(self):
+        for house in self.town.houses:
+            for root, _, _ in house.parts():
+                entries = house.entries(root)
+                self.case.assertEqual(entries, read(written(entries)))
+
+    def logs(self):
+        """What was answered about each part, by its marks, till a branch was cut off from it."""
+        for root in self.watch.homes:
+            rows = self.log(root)
+            marks = [mark for cut, mark in self.watch.cuts[root].items() if mark > self.watch.first[root]]
+            end = min(marks, default=self.watch.marks[root] + 1)
+            entries = self.watch.pages[root, self.watch.first[root]]
+            told = [row for row in rows if row[-1] < end][:200]
+            self.case.assertIsNone(judged(entries, self.watch.first[root], told))
+            if told:
+                self.case.assertEqual(self.watch.pages[root, told[-1][-1]], behind(entries, told))
+            for at, row in enumerate(told[:50]):
+                if row[0] in ("put", "drop"):
+                    twice = told[:at + 1] + told[at:]
+                    self.case.assertEqual(at + 1, judged(entries, self.watch.first[root], twice[:200]))
+
+    def log(self, root):
+        rows = []
+        for number, house in enumerate(self.town.houses):
+            for (kind, name, worth), (_, answer) in zip(self.watch.asked[number], house.answers()):
+                if answer[1] != root or kind in ("copy", "leave"):
+                    continue
+                changes = kind != "look" and answer[0] == "done"
+                word = "lacks" if answer[0] == "lacks" else kind
+                told = {"put": (worth,), "look": answer[3:]}.get(word, ())
+                rows.append((answer[2], not changes, (word, name, *told, answer[2])))
+        return [row for _, _, row in sorted(rows, key=lambda row: row[:2])]
+
     def hear_again(self):
         """Letters of any earlier time, and what is told behind them: nothing comes of it."""
         ahead = [tells(house) for house in self.town.houses]
@@ -119,6 +193,27 @@ class RunsTest(unittest.TestCase):
                 run = Run(self, 1000 + seed)
                 run.go(60).rest().hear_again()
                 run.go(60).rest().hear_again()
+
+    def test_routes_texts_and_logs(self):
+        words = []
+        for seed in range(50):
+            with self.subTest(seed=seed):
+                run = Run(self, 2000 + seed)
+                run.instants = [lambda: words.extend([word for _, _, _, word in run.routes()]), run.texts]
+                run.go(60).rest()
+                run.routes_at_rest()
+                run.asks_go_by_routes()
+                run.texts()
+                run.logs()
+        self.assertGreater(words.count("home"), 1000)
+        self.assertGreater(words.count("waits"), 1000)
+
+    def test_asks_go_by_routes(self):
+        for seed in range(25):
+            with self.subTest(seed=seed):
+                run = Run(self, 3000 + seed)
+                for _ in range(12):
+                    run.go(5).asks_go_by_routes()
 
     def test_runs_in_which_much_happens(self):
         runs = [Run(self, seed).go(200).rest() for seed in range(20)]

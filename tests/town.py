@@ -3,6 +3,8 @@
 A letter is never looked into: the tests know only to which house it goes.
 """
 
+import copy
+
 from headbook.errors import BookError
 from headbook.houses import House
 
@@ -66,6 +68,33 @@ class Town:
         if self.round():
             raise AssertionError("letters are told at rest")
         return self
+
+
+def tables(houses):
+    """What the houses know and are home of, as route takes it."""
+    return [(tuple(house.knows()), tuple(root for root, _, _ in house.parts())) for house in houses]
+
+
+def ask_path(town, number, name):
+    """By which houses a look goes that this house asks now, if each letter of it is heard at
+    once, and whether it is answered. Nothing is done to the town."""
+    houses = copy.deepcopy(town.houses)
+    ahead = houses[number].letters()
+    answered = len(houses[number].answers())
+    houses[number].look(name)
+    under_way = [row for row in houses[number].letters() if row not in ahead]
+    path = [number]
+    while under_way:
+        (to, letter), = under_way
+        path.append(to)
+        if len(path) > ENDLESS:
+            raise AssertionError("an ask without end")
+        under_way = houses[to].hear(letter)
+        if len(houses[number].answers()) > answered:
+            # The last letter was the answer; and a home sends its own ask to itself.
+            path.pop()
+            return (path[:-1] if path == [number, number] else path, "home")
+    return (path, "waits")
 
 
 def tells(house):
